@@ -1,0 +1,1 @@
+"""A clinic whole, told by a text of commands."""
