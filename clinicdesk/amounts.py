@@ -18,7 +18,7 @@ LEAST_UNITS = {"volume": "uL", "time": "s", "mass": "g", "rate": "uL/h"}
 
 
 def is_number(text):
-    return 1 <= len(text) and len(text) <= 9 and text.isdigit()
+    return len(text) <= 9 and text.isdigit()
 
 
 def read_number(text):

@@ -116,7 +116,7 @@ def ends_in_pieces(shape):
 
 def read_operands(shape, words):
     told = list(words)
-    if ends_in_pieces(shape) and len(words) >= len(shape) - 1:
+    if ends_in_pieces(shape):
         told = words[:len(shape) - 1] + [words[len(shape) - 1:]]
     if len(told) != len(shape):
         return None

@@ -92,10 +92,16 @@ class WordsTest(unittest.TestCase):
                     self.assertEqual(run(feed(list(b"water ok") + [byte, 10]))[0], [1, 1, -100])
                     self.assertEqual(run(feed([byte, 10]))[0], [1, 0] if byte == 35 else [1, 1, -100])
 
+    def test_bytes_that_are_far_from_a_letter(self):
+        for apart in (-128, -96, -95, -64, -32, 32, 64, 95, 96, 128):
+            row = [byte + apart if byte != 32 and 0 <= byte + apart <= 255 else byte for byte in b"water ok"]
+            if row != list(b"water ok") and 10 not in row:
+                self.assertEqual(run(feed(row + [10]))[0], [1, 1, -100], apart)
+
     def test_lines_that_are_no_command(self):
         lines = ["x", "water", "water ok ok", "water good", "Water ok", "water OK", "waterok", "ask", "ask x",
                  "ask now 1", "ask chair", "ask chair 1 1", "book 1", "tick", "tick 1 1", "tick x", "tick -1",
-                 "take 1", "take 1 up", "take on 1", "patient 1 70kg 350", "patient 1 70kg 350 plain plain",
+                 "take 1", "take 1 up", "take on 1", "take 1 choice", "patient 1 70kg 350", "patient 1 70kg 350 plain plain",
                  "prime 1 1", "prime 1 drain", "fault 1 C 5", "fault 1 a 5", "fault 1 A", "fault 1 A false",
                  "fault 1 A -1", "slip 1 artery", "slip 1 heart on", "slip 1 vein true", "press 1 1", "press 1 x 1",
                  "order 1 1 1L x1", "order 1 1 1L 1 catch 1s:1:1uL/h", "order 1 1 1L x1 both 1s:1:1uL/h",

@@ -2,7 +2,7 @@
 
 import unittest
 
-from clinicdesk.machine import Machine, Memory, begins_step, kept_phase, newest_slot, write_memory, write_phase
+from clinicdesk.machine import Machine, Memory, begins_step, kept_phase, kept_record, newest_slot, write_memory, write_phase
 from clinicdesk.plans import PlanRecord
 from helper import (DISINFECTING, JOINED, LAID, PRIMED, RETURNING, RINSED, RINSING, SPENT, TESTED, TREATING,
                     ClinicTest, asked, last)
@@ -229,6 +229,9 @@ class SlotTest(unittest.TestCase):
         machine = Machine()
         self.assertEqual((newest_slot(machine), machine.slots[0][0], machine.slots[1], kept_phase(machine)),
                          (0, 0, None, 0))
+        record = kept_record(machine)
+        self.assertEqual((record.on, record.goal, record.catching, len(record.plan)), (False, 0, False, 0))
+        self.assertEqual((record.t, record.counted, record.strokes), (0, 0, 0))
 
     def test_writing_goes_from_slot_to_slot(self):
         machine = Machine()

@@ -81,6 +81,18 @@ class MovesTest(ClinicTest):
         do(clinic, "tick 1")
         self.assertEqual((clinic.chairs[0].machine.going, clinic.chairs[0].machine.taking), (False, False))
 
+    def test_who_signed(self):
+        text = TREATING.replace("staff 1 doctor", "staff 1 nurse").replace("staff 2 nurse", "staff 2 doctor")
+        self.check_moves(text + "go 1\n", 7, 7, 1)
+
+    def test_the_order_of_the_chair_s_own_session(self):
+        text = TREATING + "patient 2 80kg 400 plain\norder 2 2 1L x1 plain 1h:1:1L/h\nsign 2 1\nsign 2 2\nseat 2 2\n"
+        text += "test 2\nlay 2\nbag 2 5L\nprime 2 20 drain\nreset 2 0\nstart 2 2\ngo 1\ngo 2\n"
+        for order, allowed in ((1, [0, 1]), (2, [1, 0])):
+            ended = text + "end %d\ntick 1\n" % order
+            self.assertEqual([asked(ended, "chair", chair)["allowed"] for chair in (1, 2)], allowed)
+            self.assertEqual([asked(ended, "chair", chair)["going"] for chair in (1, 2)], allowed)
+
     def test_chairs_are_apart(self):
         other = ("patient 2 80kg 400 marked\norder 2 2 1L x1 plain 1h:1:1L/h\nsign 2 1\nsign 2 2\nseat 2 4\ntest 4\n"
                  "lay 4\nbag 4 5L\nprime 4 20 drain\nreset 4 0\nstart 4 2\njoin 4\npress 4 0 100\ncentre 4\ntake 4 on\n")
@@ -192,6 +204,10 @@ class BloodStandsTest(ClinicTest):
     def test_without_power(self):
         self.check_last(BLOOD + "fail 1\ntick 121\n", 0, 126, 128, 0, 0, 0, 0, 0, 0, 0)
         self.check_last(BLOOD + "fail 1\ntick 121\nback 1\n", 0, 3, 128, 0)
+
+    def test_the_least_red(self):
+        text = BLOOD.replace("70kg 350", "70kg 1")
+        self.check_last(text + "tick 121\n", 0, 126, 128, 0, 0, 0, 0, 0, 0, 0)
 
     def test_without_red(self):
         for text in ("", TREATING, RETURNING):

@@ -1,5 +1,7 @@
 """Acts that look after a machine and its guard, and what befalls them."""
 
+from clinicdesk.machine import Machine
+from clinicdesk.upkeep import do_upkeep_act
 from helper import (CLINIC, JOINED, LAID, PHASES, PRIMED, RETURNING, TREATING, ClinicTest, asked, last, told)
 
 LEAKS = "leak 1 1000\nleak 1 1000\nleak 1 1000\n"
@@ -182,6 +184,18 @@ class ResetTest(ClinicTest):
         self.assertEqual(asked(UNCENTRED + "leave 1\nreset 1 6\n", "guard")["uncentred"], 0)
         self.assertEqual(asked(UNCENTRED, "guard")["uncentred"], 10)
 
+    def test_latch_6_makes_uncentred_0(self):
+        machine = Machine()
+        machine.guard.latches = 68
+        machine.guard.uncentred = 5
+        self.assertEqual(do_upkeep_act(machine, "reset", [6]), [4])
+        self.assertEqual(machine.guard.uncentred, 0)
+
+    def test_other_latches_leave_uncentred_as_it_is(self):
+        text = TREATING + "join 1\ngo 1\ntick 5\n" + LEAKS + "leak 1 0\nreset 1 2\n"
+        self.check_last(text, 0)
+        self.assertEqual(asked(text, "guard")["uncentred"], 5)
+
     def test_latch_7(self):
         text = TREATING + "join 1\ngo 1\ntick 2\nhalt 1\nleave 1\ntick 121\n"
         self.check_last(text, 0, 123, 128, 0, 0, 0, 0, 0, 0, 0)
@@ -243,6 +257,16 @@ class PowerTest(ClinicTest):
         self.assertEqual(asked(blood + "back 1\n", "guard")["still"], 50)
         clean = CLINIC + "fail 1\ntick 50\n"
         self.assertEqual(asked(clean + "back 1\n", "guard")["still"], 0)
+
+
+    def test_back_makes_still_0_where_there_is_no_red(self):
+        for cell, still in (((0, 1000, 0), 0), ((1, 999, 0), 50)):
+            machine = Machine()
+            machine.power = False
+            machine.cells[9] = cell
+            machine.guard.still = 50
+            self.assertEqual(do_upkeep_act(machine, "back", []), [0, 0, 0, 0])
+            self.assertEqual(machine.guard.still, still)
 
 
 class SlipTest(ClinicTest):
