@@ -3,6 +3,9 @@
 import unittest
 
 from clinicdesk.clinic import answers
+from clinicdesk.desk import do_command, do_line
+from clinicdesk.holdings import Clinic
+from clinicdesk.shapes import read_command
 
 
 def as_bytes(text):
@@ -75,6 +78,18 @@ def form_of(text):
         return whole
     assert whole[0] == len(whole) - 1
     return bytes(whole[1:]).decode("ascii")
+
+
+def clinic_behind(text):
+    """The clinic itself, for tests of what no text can reach."""
+    clinic = Clinic()
+    for line in text.splitlines():
+        do_line(clinic, line.encode("ascii"))
+    return clinic
+
+
+def do(clinic, line):
+    return do_command(clinic, read_command(line.split()))
 
 
 QUESTIONS = ["ask now", "ask board"]

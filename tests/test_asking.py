@@ -57,7 +57,7 @@ class InUseTest(ClinicTest):
 
     def test_plant(self):
         # 20 moves of priming and 25 joined: 16 of the bag's cells and then 9 of blood went back.
-        # The first 11 of these lost no water, for they were beyond the dialyser; the others 250 each.
+        # The first 12 of these lost no water, for they had passed the dialyser; the others 250 each.
         given_water = 16 * 1000 - 4 * 250 + 9 * (650 - 250)
         self.check_last(IN_USE + "ask plant 1\n", 0, 25 * 350, 25 * 650, 0, 20000, 32000, 9 * 350, given_water, 0, 0, 0, 0,
                         0, 4000, 8000, 0, 0, 16000, 6250, 0, 45, 2, 0, 0, 0, 0, 0, 0, 0, 0)

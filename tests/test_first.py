@@ -1,9 +1,7 @@
 """What's looked at first: -1, then -99, then -2, then a command's own refusals; and what is written down."""
 
-from clinicdesk.desk import do_command
 from clinicdesk.holdings import Clinic
-from clinicdesk.shapes import read_command
-from helper import ClinicTest, CLINIC, RECORD, TREATING, all_asked, feed, last, record_of, run, told
+from helper import CLINIC, RECORD, TREATING, ClinicTest, all_asked, do, feed, last, record_of, run, told
 
 ACTS = ["test 1", "lay 1", "prime 1 1 drain", "start 1 1", "join 1", "leave 1", "take 1 on", "go 1", "halt 1",
         "finish 1", "done 1", "disinfect 1 1", "rinse 1 1", "clear 1", "bag 1 1L", "fault 1 A 1", "fault 1 B true",
@@ -17,10 +15,6 @@ def filled(length):
     clinic.record = [35] * length
     clinic.chairs[0].machine.power = False
     return clinic
-
-
-def do(clinic, line):
-    return do_command(clinic, read_command(line.split()))
 
 
 class OrderOfRefusalsTest(ClinicTest):

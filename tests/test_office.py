@@ -1,9 +1,7 @@
 """Commands of the clinic: their refusals in the order told, what they do, and their answers."""
 
-from clinicdesk.desk import do_command
 from clinicdesk.holdings import Clinic
-from clinicdesk.shapes import read_command
-from helper import (CLINIC, JOINED, LAID, PEOPLE, PRIMED, RETURNING, SPENT, STOCK, TREATING, ClinicTest, last, told)
+from helper import CLINIC, JOINED, LAID, PEOPLE, PRIMED, RETURNING, SPENT, STOCK, TREATING, ClinicTest, do, last, told
 
 
 class PatientTest(ClinicTest):
@@ -210,6 +208,6 @@ class TickTest(ClinicTest):
         for clock, answer in ((999999990, 0), (999999991, -3)):
             clinic = Clinic()
             clinic.clock = clock
-            told_numbers = do_command(clinic, read_command(["tick", "10"]))
+            told_numbers = do(clinic, "tick 10")
             self.assertEqual(told_numbers[0], answer)
             self.assertEqual(clinic.clock, clock if answer < 0 else 1000000000)

@@ -1,23 +1,10 @@
 """Time: seconds at a chair, the ledger, what is drawn and given, blood that stands, since, and the board."""
 
-from clinicdesk.desk import do_command, do_line
 from clinicdesk.holdings import Clinic
-from clinicdesk.shapes import read_command
-from helper import JOINED, PHASES, PRIMED, RETURNING, TREATING, ClinicTest, asked, last, told
+from helper import JOINED, PHASES, PRIMED, RETURNING, TREATING, ClinicTest, asked, clinic_behind, do, last, told
 
 LEAKS = "leak 1 1000\nleak 1 1000\nleak 1 1000\n"
 BLOOD = TREATING + "join 1\ngo 1\ntick 5\nleave 1\nhalt 1\n"
-
-
-def clinic_behind(text):
-    clinic = Clinic()
-    for line in text.splitlines():
-        do_line(clinic, line.encode("ascii"))
-    return clinic
-
-
-def do(clinic, line):
-    return do_command(clinic, read_command(line.split()))
 
 
 class MovesTest(ClinicTest):

@@ -1,24 +1,10 @@
 """Acts of a treatment: their refusals in the order told, what they do, and their answers."""
 
-from clinicdesk.desk import do_command, do_line
-from clinicdesk.holdings import Clinic
-from clinicdesk.shapes import read_command
 from helper import (CLINIC, DISINFECTING, JOINED, LAID, ORDER, PEOPLE, PHASES, PRIMED, RETURNING, RINSED, RINSING,
-                    SPENT, STOCK, TESTED, TREATING, ClinicTest, asked, last, told)
+                    SPENT, STOCK, TESTED, TREATING, ClinicTest, asked, clinic_behind, do, last, told)
 
 AGAIN = ("done 1\ndisinfect 1 1\nrinse 1 12\nclear 1\ntest 1\nlay 1\nbag 1 5L\nprime 1 20 drain\nreset 1 0\n"
          "start 1 %d\n")
-
-
-def clinic_behind(text):
-    clinic = Clinic()
-    for line in text.splitlines():
-        do_line(clinic, line.encode("ascii"))
-    return clinic
-
-
-def do(clinic, line):
-    return do_command(clinic, read_command(line.split()))
 
 
 class PhaseTest(ClinicTest):
